@@ -1,0 +1,1 @@
+"""Blindkeys: keys pressed again and again by a hand that never looks."""

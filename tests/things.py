@@ -1,0 +1,85 @@
+"""What several tests need: things of every kind, and how to see that nothing was changed."""
+
+import copy
+import math
+import random
+
+
+class Rude:
+    """A thing that answers nothing but errors."""
+
+    def _refuse(self, *told):
+        raise RuntimeError("asked")
+
+    __eq__ = __ne__ = __lt__ = __le__ = __gt__ = __ge__ = _refuse
+    __len__ = __iter__ = __getitem__ = __bool__ = __index__ = __int__ = _refuse
+    __contains__ = __hash__ = __str__ = __repr__ = __add__ = __mul__ = _refuse
+
+    @property
+    def __class__(self):
+        raise RuntimeError("asked")
+
+
+class RudeList(list):
+    """A list that answers nothing but errors."""
+
+    __len__ = __iter__ = __getitem__ = Rude._refuse
+
+
+def nested(depth):
+    thing = []
+    for _ in range(depth):
+        thing = [thing]
+    return thing
+
+
+def endless():
+    thing = []
+    thing.append(thing)
+    return thing
+
+
+def anything():
+    """Things that are no text of pieces, no hand and no sheet, whatever else they are."""
+    return [
+        None, True, False, 0, 1, -1, 10 ** 40, 10 ** 6000, 1.0, math.nan, math.inf, 1j,
+        "", "a", "abc", "left", "paste", "\n", "\u00e9", "\udc80", "a" * 4000,
+        b"", b"abc", bytearray(b"a"), range(0), range(3), {}, {"a": 1}, {0: "a"}, set(), {"a"},
+        frozenset(), object(), object, len, iter([]), (k for k in [1]), Rude(), RudeList(),
+        [None], [True], [0], [""], ["a"], ["ab"], ["a1"], [[]], [()], [{}], [{"a": 1}], [Rude()],
+        ["a", 1], ("a", 1), ("left", 1), ("paste",), ["paste"], [b"ab"], [RudeList()],
+        nested(1), nested(40), endless(), [[None, None]], [[None, None, None]], [None] * 61,
+        [[Rude(), Rude()]], [[Rude(), Rude(), Rude()]], [Rude(), Rude(), Rude()],
+        [[[], 1]], [[{}, 1]], [["a", []]], [["left", {}]], [["write", []]], [[["left"], 1]],
+        [("left", "right")], [({"left": 1}, 1)], [(["write"], "a")],
+        ["abc", "1", ""], ["abc", None, ""], ["abc", 1, None], [None, 0, ""], [["a"], 0, ""],
+        ("abc", 0), ("abc", 0, "", ""), "ab1", {"abc": 0, 0: 1, "": 2},
+    ]
+
+
+def whole_bad():
+    """Things that are no whole number at all."""
+    return [None, True, False, "1", "", 1.0, 0.0, math.nan, [], [1], (1,), {}, b"1", Rude()]
+
+
+def frozen(thing):
+    """A copy that tells lists and tuples apart, to compare with later."""
+    return copy.deepcopy(thing)
+
+
+def seeded(number):
+    return random.Random(number)
+
+
+def as_lists(thing):
+    """The same thing with lists for tuples, at every depth."""
+    if isinstance(thing, (list, tuple)):
+        return [as_lists(part) for part in thing]
+    return thing
+
+
+def as_tuples(thing):
+    """The same thing with tuples for lists, at every depth."""
+    if isinstance(thing, (list, tuple)):
+        return tuple(as_tuples(part) for part in thing)
+    return thing
