@@ -12,6 +12,9 @@ SIDES = {
     "right": "right", "strike": "right", "copy": "right", "cut": "right",
 }
 
+# Where lengths, and tables, have what belongs to each side and to the clip.
+NUMBERS = {"left": 0, "right": 1, "clip": 2}
+
 
 def is_key(thing):
     """Tell whether a thing is a key, of whatever weight."""
@@ -131,19 +134,48 @@ def press(sheet, hand, *, times=1):
     return "".join(left + right), len(left), "".join(held)
 
 
-def reach(hand, side):
-    """Tell a hand's reach on one side."""
-    # A letter more on the other side or in the clip never leaves fewer letters on this one, so
-    # that none there is the worst case. As many letters as a hand may weigh are never cut short.
-    sides = {"left": [], "right": []}
-    sides[side].extend([""] * HEAVIEST)
-    held = []
+def go(key, lengths):
+    """Tell the lengths (left, right, held) behind one key, which are all that it hangs on."""
+    left, right, held = lengths
+    kind = key[0]
+    if kind == "write":
+        return left + len(key[1]), right, held
+    if kind == "paste":
+        return left + held, right, held
+    many = min(key[1], lengths[NUMBERS[SIDES[kind]]])
+    if kind == "left":
+        return left - many, right + many, held
+    if kind == "right":
+        return left + many, right - many, held
+    if kind == "rub":
+        return left - many, right, held
+    if kind == "strike":
+        return left, right - many, held
+    if kind == "copy":
+        return left, right, many
+    return left, right - many, many
+
+
+def needed(hand, side, lengths):
+    """Tell how many letters a side needs for no key to be cut short there.
+
+    The lengths that are handed in have as many there as a hand may weigh: these suffice.
+    """
     least = HEAVIEST
     for key in hand:
         if SIDES.get(key[0]) == side:
-            least = min(least, len(sides[side]) - key[1])
-        held = do_key(key, sides["left"], sides["right"], held)
+            least = min(least, lengths[NUMBERS[side]] - key[1])
+        lengths = go(key, lengths)
     return HEAVIEST - least
+
+
+def reach(hand, side):
+    """Tell a hand's reach on one side."""
+    # A letter more on the other side or in the clip never leaves fewer letters on this one, so
+    # that none there is the worst case.
+    if side == "left":
+        return needed(hand, side, (HEAVIEST, 0, 0))
+    return needed(hand, side, (0, HEAVIEST, 0))
 
 
 def reaches(hand):

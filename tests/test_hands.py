@@ -4,22 +4,10 @@ import unittest
 from blindkeys import hands
 from blindkeys.errors import NoHand, NoSheet, NoTimes
 from blindkeys.hands import is_hand, is_sheet, press, reaches, weight
-from things import anything, as_lists, as_tuples, frozen, seeded, whole_bad
+from things import (
+    KINDS, NEARLY_HANDS, anything, as_lists, as_tuples, frozen, seeded, some_hand, whole_bad,
+)
 
-KINDS = ("left", "right", "strike", "rub", "copy", "cut")
-# Read as hands these are wrong in one thing only.
-NEARLY_HANDS = [
-    *[[(kind, k)] for kind in KINDS for k in (0, -1, 61, 10 ** 6000, True, None, "1", 1.0, "a")],
-    *[[(kind,)] for kind in KINDS], *[[(kind, 1, 1)] for kind in KINDS],
-    [("write",)], [("write", "")], [("write", "a" * 61)], [("write", "A")], [("write", "a b")],
-    [("write", "a\n")], [("write", "\u00e4")], [("write", 1)], [("write", None)], [("write", ["a"])],
-    [("write", b"a")], [("write", "a", 1)], [("paste", 1)], [("paste", "a")], [("paste", None)],
-    [("Left", 1)], [("", 1)], [("left ", 1)], [("up", 1)], [("Paste",)], [("",)], [()], [[]],
-    ["paste"], ["left"], "paste", ("paste",), ("left", 1), [("paste",), None], [None, ("paste",)],
-    [(b"left", 1)], [(1, "left")], {"left": 1}, {("left", 1): 1}, {("left", 1)}, [{"paste": 1}],
-    [("paste",)] * 61, [("left", 1)] * 61, [("left", 30), ("right", 31)], [("write", 3)],
-    [("write", "a" * 60), ("paste",)], [("copy", 59), ("paste",), ("paste",)],
-]
 NEARLY_SHEETS = [
     ("abc", -1, ""), ("abc", 4, ""), ("", 1, ""), ("abc", True, ""), ("abc", None, ""),
     ("abc", "1", ""), ("abc", 1.0, ""), ("abc", 10 ** 6000, ""), ("abc", 1, "a" * 61),
@@ -79,19 +67,6 @@ def cuts(hand, left, right, held):
     for key in hand:
         step(state, key)
     return state["cuts"]
-
-
-def some_hand(chance, most_keys=8, most=4):
-    keys = []
-    for _ in range(chance.randint(0, most_keys)):
-        kind = chance.choice((*KINDS, "write", "paste"))
-        if kind == "paste":
-            keys.append(("paste",))
-        elif kind == "write":
-            keys.append(("write", "".join(chance.choice("xyz") for _ in range(chance.randint(1, most)))))
-        else:
-            keys.append((kind, chance.randint(1, most)))
-    return keys
 
 
 def some_sheet(chance):

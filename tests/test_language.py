@@ -17,6 +17,12 @@ LIBRARY = {
     "itertools": "product combinations permutations chain accumulate pairwise islice zip_longest",
     "collections": "defaultdict deque",
 }
+NOT_NAMES = set(
+    "mro elements open input law version_info with_traceback add_note register typing "
+    "typing_extensions enum Enum IntEnum StrEnum Flag IntFlag Generic Protocol ABC ABCMeta namedtuple "
+    "NamedTuple TypedDict TYPE_CHECKING abstractmethod dataclass overload contextmanager attrgetter "
+    "builtins gc importlib methodcaller os sys".split()
+)
 NOT_USED = (
     ast.Global, ast.AsyncFunctionDef, ast.Await, ast.Div, ast.MatMult, ast.Import,
 )
@@ -72,6 +78,21 @@ class Language(unittest.TestCase):
             for at, node in enumerate(tree.body):
                 docstring = at == 0 and isinstance(node, ast.Expr) and isinstance(node.value, ast.Constant)
                 self.assertTrue(docstring or isinstance(node, allowed), (name, node.lineno))
+
+    def test_names_that_are_not_used(self):
+        for name, node in self.nodes():
+            for field in ("id", "name", "attr", "arg", "module"):
+                self.assertNotIn(getattr(node, field, None), NOT_NAMES, (name, getattr(node, "lineno", 0)))
+
+    def test_no_name_means_two_things(self):
+        for name, tree in self.trees.items():
+            taken = {part.name for node in tree.body if isinstance(node, ast.ImportFrom) for part in node.names}
+            taken |= {node.name for node in tree.body if isinstance(node, ast.ClassDef)}
+            for node in ast.walk(tree):
+                if isinstance(node, ast.arg):
+                    self.assertNotIn(node.arg, taken, (name, node.lineno))
+                if isinstance(node, ast.Name) and isinstance(node.ctx, ast.Store):
+                    self.assertNotIn(node.id, taken, (name, node.lineno))
 
     def test_builtins_and_statements(self):
         known = set(dir(builtins))

@@ -4,6 +4,21 @@ import copy
 import math
 import random
 
+KINDS = ("left", "right", "strike", "rub", "copy", "cut")
+# Read as hands these are wrong in one thing only.
+NEARLY_HANDS = [
+    *[[(kind, k)] for kind in KINDS for k in (0, -1, 61, 10 ** 6000, True, None, "1", 1.0, "a")],
+    *[[(kind,)] for kind in KINDS], *[[(kind, 1, 1)] for kind in KINDS],
+    [("write",)], [("write", "")], [("write", "a" * 61)], [("write", "A")], [("write", "a b")],
+    [("write", "a\n")], [("write", "\u00e4")], [("write", 1)], [("write", None)], [("write", ["a"])],
+    [("write", b"a")], [("write", "a", 1)], [("paste", 1)], [("paste", "a")], [("paste", None)],
+    [("Left", 1)], [("", 1)], [("left ", 1)], [("up", 1)], [("Paste",)], [("",)], [()], [[]],
+    ["paste"], ["left"], "paste", ("paste",), ("left", 1), [("paste",), None], [None, ("paste",)],
+    [(b"left", 1)], [(1, "left")], [[[], 1]], {"left": 1}, {("left", 1): 1}, {("left", 1)}, [{"paste": 1}],
+    [("paste",)] * 61, [("left", 1)] * 61, [("left", 30), ("right", 31)], [("write", 3)],
+    [("write", "a" * 60), ("paste",)], [("copy", 59), ("paste",), ("paste",)],
+]
+
 
 class Rude:
     """A thing that answers nothing but errors."""
@@ -40,7 +55,7 @@ def endless():
 
 
 def anything():
-    """Things that are no text of pieces, no hand and no sheet, whatever else they are."""
+    """Things that are no text of pieces, no hand, no sheet, no lengths and no play."""
     return [
         None, True, False, 0, 1, -1, 10 ** 40, 10 ** 6000, 1.0, math.nan, math.inf, 1j,
         "", "a", "abc", "left", "paste", "\n", "\u00e9", "\udc80", "a" * 4000,
@@ -50,7 +65,7 @@ def anything():
         ["a", 1], ("a", 1), ("left", 1), ("paste",), ["paste"], [b"ab"], [RudeList()],
         nested(1), nested(40), endless(), [[None, None]], [[None, None, None]], [None] * 61,
         [[Rude(), Rude()]], [[Rude(), Rude(), Rude()]], [Rude(), Rude(), Rude()],
-        [[[], 1]], [[{}, 1]], [["a", []]], [["left", {}]], [["write", []]], [[["left"], 1]],
+        [[{}, 1]], [["a", []]], [["left", {}]], [["write", []]], [[["left"], 1]],
         [("left", "right")], [({"left": 1}, 1)], [(["write"], "a")],
         ["abc", "1", ""], ["abc", None, ""], ["abc", 1, None], [None, 0, ""], [["a"], 0, ""],
         ("abc", 0), ("abc", 0, "", ""), "ab1", {"abc": 0, 0: 1, "": 2},
@@ -83,3 +98,36 @@ def as_tuples(thing):
     if isinstance(thing, (list, tuple)):
         return tuple(as_tuples(part) for part in thing)
     return thing
+
+
+def some_hand(chance, most_keys=8, most=4):
+    keys = []
+    for _ in range(chance.randint(0, most_keys)):
+        kind = chance.choice((*KINDS, "write", "paste"))
+        if kind == "paste":
+            keys.append(("paste",))
+        elif kind == "write":
+            keys.append(("write", "".join(chance.choice("xyz") for _ in range(chance.randint(1, most)))))
+        else:
+            keys.append((kind, chance.randint(1, most)))
+    return keys
+
+
+def light_hand(chance, heaviest, most_keys=8, most=4):
+    """A hand of no more than this weight."""
+    keys = []
+    for key in some_hand(chance, most_keys, most):
+        if sum(1 if len(part) == 1 else part[1] if type(part[1]) is int else len(part[1])
+               for part in keys + [key]) <= heaviest:
+            keys.append(key)
+    return keys
+
+
+def nearly_lengths():
+    """Things that read as lengths are wrong in one thing only, and others."""
+    return [
+        *[thing for bad in (-1, True, None, "1", 1.0, [], "") for thing in
+          ((bad, 1, 1), (1, bad, 1), (1, 1, bad))],
+        (1, 1, 61), (1, 1, 10 ** 30), (1, 1), (1, 1, 1, 1), (), [], {0: 1, 1: 1, 2: 1}, "111",
+        ((1, 1, 1),), [[1, 1, 1]], (1, (1, 1)), 3, {1, 2, 3}, range(3), b"abc",
+    ]
