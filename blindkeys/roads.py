@@ -4,7 +4,7 @@ from blindkeys.courses import MOST_PRESSINGS, more, short, trip_of
 from blindkeys.errors import NoPlace, NoPlay, TooMany
 from blindkeys.hands import NUMBERS, is_hand
 from blindkeys.kinds import is_row, is_within
-from blindkeys.tables import check_lengths, sourced, trace
+from blindkeys.tables import check_lengths, source_in, sourced, trace
 
 MOST_PARTS = 12
 MOST_HEIRS = 2000
@@ -47,13 +47,7 @@ class Road:
         """Tell where the letter at a spot behind a pressing by short lengths comes from."""
         if near not in self.tables:
             self.tables[near] = trace(self.row, near)
-        side, deep = spot
-        number = NUMBERS[side]
-        row = self.tables[near][number]
-        if deep < len(row):
-            return row[deep]
-        # Of the letters beyond what short lengths have each one stays where it lay.
-        return side, deep - len(row) + near[number]
+        return source_in(self.tables[near], near, spot)
 
     def back_by(self, leg, gone, many, spot):
         """Go so many pressings back, from where so many of a leg are gone, or to what typed it."""

@@ -1,7 +1,7 @@
 """Tables: where each letter comes from that lies there behind one pressing of a hand."""
 
 from blindkeys.errors import NoLengths, TooMany
-from blindkeys.hands import check_hand, do_key, reach, weigh
+from blindkeys.hands import NUMBERS, check_hand, do_key, reach, weigh
 from blindkeys.kinds import LONGEST_WORD, is_row, is_whole, is_within
 
 LONGEST_SIDE = 200
@@ -65,6 +65,20 @@ def trace(keys, lengths):
     left.reverse()
     right.reverse()
     return left, right, held
+
+
+def source_in(rows, near, spot):
+    """Tell where the letter at a spot behind a pressing comes from.
+
+    The rows are a trace by near lengths, beyond which a side may have more letters: of these
+    each one stays where it lay.
+    """
+    side, deep = spot
+    number = NUMBERS[side]
+    row = rows[number]
+    if deep < len(row):
+        return row[deep]
+    return side, deep - len(row) + near[number]
 
 
 def all_lengths(many, lefts, rights):

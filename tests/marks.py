@@ -85,3 +85,33 @@ def ahead_of_each(hand, lengths, many):
         told.press(hand)
         seen.append(told.lengths())
     return seen, told.cuts[0] if told.cuts else None
+
+
+def plain_press(sheet, hand):
+    """A sheet behind one pressing, done to plain texts."""
+    words, cursor, clip = sheet
+    for key in hand:
+        left, right = words[:cursor], words[cursor:]
+        if key[0] == "write":
+            left += key[1]
+        elif key[0] == "paste":
+            left += clip
+        elif key[0] in ("left", "rub"):
+            kept = max(0, len(left) - key[1])
+            right = (left[kept:] if key[0] == "left" else "") + right
+            left = left[:kept]
+        else:
+            taken = right[:key[1]]
+            right = right if key[0] == "copy" else right[key[1]:]
+            left += taken if key[0] == "right" else ""
+            clip = taken if key[0] in ("copy", "cut") else clip
+        words, cursor = left + right, len(left)
+    return words, cursor, clip
+
+
+def plain_play(sheet, play):
+    """A sheet behind a play, done to plain texts."""
+    for hand, times in play:
+        for _ in range(times):
+            sheet = plain_press(sheet, hand)
+    return sheet

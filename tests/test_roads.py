@@ -6,45 +6,16 @@ from blindkeys.errors import NoLengths, NoPlace, NoPlay, TooMany
 from blindkeys.roads import after, clip_origins, heirs, is_play, origin
 from marks import behind_play
 from things import (
-    NEARLY_HANDS, anything, as_lists, as_tuples, frozen, light_hand, nearly_lengths, seeded,
-    some_hand, whole_bad,
+    NEARLY_PLAYS, PRINT, TURN, anything, as_lists, as_tuples, cut_up, frozen, light_hand,
+    nearly_lengths, seeded, some_play, whole_bad,
 )
 
 FAR = 10 ** 30
 ASKS = (after, clip_origins, lambda play, by: origin(play, by, 0), lambda play, by: heirs(play, by, 0))
-# Read as plays these are wrong in one thing only.
-NEARLY_PLAYS = [
-    [([], 1)] * 13, [([], -1)], [([], FAR + 1)], [([], True)], [([], None)], [([], "1")], [([], 1.0)],
-    [([],)], [([], 1, 1)], [(1, [])], [[]], [()], [None], ([], 1), [[("left", 1)]], [("left", 1)],
-    [([], 1), None], [None, ([], 1)], [([], 1), ([], -1)], {"a": 1}, {0: ([], 1)}, "ab", [{"a": 1, "b": 2}],
-    [({}, 1)], [("", 1)], [(None, 1)], [([], 10 ** 6000)], [([], -10 ** 6000)], [([[]], 1)],
-    *[[(hand, 1)] for hand in NEARLY_HANDS],
-]
-# A hand that turns a ring of so many letters right of the cursor, and one that prints it, too.
-TURN = {many: [("cut", 1), ("right", many - 1), ("paste",), ("left", many)] for many in (2, 3, 5, 9)}
-PRINT = {many: [("copy", 1), ("paste",)] + hand for many, hand in TURN.items()}
-
-
-def some_play(chance, most_parts, most_times):
-    play = []
-    for _ in range(chance.randint(0, most_parts)):
-        hand = chance.choice(([], some_hand(chance), light_hand(chance, 12), light_hand(chance, 12)))
-        play.append((hand, chance.choice((0, 1, 2, 3, chance.randint(0, most_times)))))
-    return play
 
 
 def some_lengths(chance):
     return chance.choice((0, 1, 4, 30)), chance.choice((0, 1, 4, 30)), chance.choice((0, 1, 3, 8))
-
-
-def cut_up(play, chance):
-    """The same play with more parts, and for each of these, of which part it was what pressings."""
-    cut, parts = [], []
-    for part, (hand, times) in enumerate(play):
-        first = chance.choice((0, min(1, times), min(77, times), times // 3, chance.randint(0, times), times))
-        cut += [(hand, first), (hand, times - first)]
-        parts += [(part, 0), (part, first)]
-    return cut, parts
 
 
 def all_origins(play, lengths):
