@@ -11,6 +11,12 @@ MOST_PRESSINGS = 10 ** 30
 FEW_ROUNDS = 10
 
 
+def check_times(thing):
+    """Refuse what is no number of pressings."""
+    if not is_within(thing, 0, MOST_PRESSINGS):
+        raise NoTimes("this is no number of pressings from 0 to 10 ** 30")
+
+
 def short(lengths, far):
     """Tell the short lengths, on which a pressing's table hangs; far are the hand's reaches."""
     return min(lengths[0], far[0]), min(lengths[1], far[1]), lengths[2]
@@ -182,8 +188,7 @@ def behind(hand, lengths, times):
     """Tell the lengths behind so many pressings."""
     check_hand(hand)
     check_lengths(lengths)
-    if not is_within(times, 0, MOST_PRESSINGS):
-        raise NoTimes("this is no number of pressings from 0 to 10 ** 30")
+    check_times(times)
     return trip_of(hand, lengths, times).here
 
 

@@ -29,6 +29,11 @@ def is_plain(thing):
     return type(thing) is str and thing.strip(ALPHABET) == ""
 
 
+def is_letters(thing):
+    """Tell whether a thing is a plain text of one or more letters."""
+    return is_plain(thing) and thing != ""
+
+
 def is_letter(thing):
     """Tell whether a thing is one letter."""
     return is_plain(thing) and len(thing) == 1

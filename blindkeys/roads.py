@@ -107,21 +107,6 @@ class Road:
         return spot
 
 
-def roads_of(play, lengths):
-    """Tell the roads through each part of a play, the first one first."""
-    roads = []
-    for hand, times in play:
-        road = Road(hand, lengths, times)
-        roads.append(road)
-        lengths = road.behind
-    return roads
-
-
-def behind_roads(roads, lengths):
-    """Tell the lengths behind all roads, which begin by the lengths."""
-    return roads[-1].behind if roads else lengths
-
-
 def spot_of(lengths, place):
     """Tell at which spot the letter at a place is."""
     if place < lengths[0]:
@@ -139,13 +124,36 @@ def first_of(lengths, spot):
     return "first", lengths[0] + deep
 
 
-def origin_of(roads, lengths, spot):
-    """Tell the origin of what lies at a spot behind all roads, which begin by the lengths."""
-    for part, road in reversed(list(enumerate(roads))):
-        spot = road.through(spot)
-        if spot[0] == "typed":
-            return "typed", part, spot[1], spot[2], spot[3]
-    return first_of(lengths, spot)
+class Journey:
+    """A play from lengths on: where each letter behind it comes from."""
+
+    def __init__(self, play, lengths):
+        self.parts = play
+        self.ahead = lengths
+        self.there = lengths
+        self.roads = []
+        for hand, times in play:
+            road = Road(hand, self.there, times)
+            self.roads.append(road)
+            self.there = road.behind
+        self.size = self.there[0] + self.there[1]
+
+    def origin_at(self, spot):
+        """Tell the origin of what lies at a spot behind the play."""
+        for part, road in reversed(list(enumerate(self.roads))):
+            spot = road.through(spot)
+            if spot[0] == "typed":
+                return "typed", part, spot[1], spot[2], spot[3]
+        return first_of(self.ahead, spot)
+
+    def origin_of(self, place):
+        """Tell the origin of the letter at a place behind the play."""
+        return self.origin_at(spot_of(self.there, place))
+
+    def typed_letter(self, mark):
+        """Tell the letter that was typed, by its origin."""
+        part, _, key, at = mark[1:]
+        return self.parts[part][0][key][1][at]
 
 
 def check_place(thing, lengths):
@@ -163,34 +171,30 @@ def after(play, lengths):
     return tuple(lengths)
 
 
-def origin(play, lengths, place):
-    """Tell where the letter at a place behind a play comes from."""
+def journey_of(play, lengths):
+    """Tell the journey of a play from lengths on, and refuse what is none of these."""
     check_play(play)
     check_lengths(lengths)
-    roads = roads_of(play, lengths)
-    there = behind_roads(roads, lengths)
-    check_place(place, there)
-    return origin_of(roads, lengths, spot_of(there, place))
+    return Journey(play, lengths)
+
+
+def origin(play, lengths, place):
+    """Tell where the letter at a place behind a play comes from."""
+    journey = journey_of(play, lengths)
+    check_place(place, journey.there)
+    return journey.origin_of(place)
 
 
 def clip_origins(play, lengths):
     """Tell where the clip's letters behind a play come from."""
-    check_play(play)
-    check_lengths(lengths)
-    roads = roads_of(play, lengths)
-    there = behind_roads(roads, lengths)
-    return [origin_of(roads, lengths, ("clip", deep)) for deep in range(there[2])]
+    journey = journey_of(play, lengths)
+    return [journey.origin_at(("clip", deep)) for deep in range(journey.there[2])]
 
 
 def heirs(play, lengths, place):
     """Tell the places behind a play of all letters that come from a first place."""
-    check_play(play)
-    check_lengths(lengths)
-    check_place(place, lengths)
-    roads = roads_of(play, lengths)
-    there = behind_roads(roads, lengths)
-    many = there[0] + there[1]
-    if many > MOST_HEIRS:
-        raise TooMany(many)
-    return [now for now in range(many)
-            if origin_of(roads, lengths, spot_of(there, now)) == ("first", place)]
+    journey = journey_of(play, lengths)
+    check_place(place, journey.ahead)
+    if journey.size > MOST_HEIRS:
+        raise TooMany(journey.size)
+    return [now for now in range(journey.size) if journey.origin_of(now) == ("first", place)]

@@ -3,7 +3,7 @@
 from blindkeys.errors import NoNumber, NoPlace, NoStand
 from blindkeys.kinds import is_clip, is_row, is_within
 from blindkeys.pieces import LONGEST_LOOK, end_of, is_text, look, spans_of
-from blindkeys.roads import behind_roads, check_place, check_play, origin_of, roads_of, spot_of
+from blindkeys.roads import Journey, check_place, check_play, spot_of
 
 
 def is_stand(thing):
@@ -31,21 +31,18 @@ class Scene:
     def __init__(self, stand, play):
         self.spans = spans_of(stand[0])
         self.held = stand[2]
-        self.parts = play
-        self.ahead = lengths_of(stand)
-        self.roads = roads_of(play, self.ahead)
-        self.there = behind_roads(self.roads, self.ahead)
-        self.size = self.there[0] + self.there[1]
+        self.journey = Journey(play, lengths_of(stand))
+        self.there = self.journey.there
+        self.size = self.journey.size
 
     def letter_at(self, spot):
         """Tell the letter at a spot."""
-        mark = origin_of(self.roads, self.ahead, spot)
+        mark = self.journey.origin_at(spot)
         if mark[0] == "first":
             return look(self.spans, mark[1], 1)
         if mark[0] == "clip":
             return self.held[mark[1]]
-        part, _, key, at = mark[1:]
-        return self.parts[part][0][key][1][at]
+        return self.journey.typed_letter(mark)
 
     def letters(self, place, many):
         """Tell so many letters from a place on, fewer where the text ends."""
