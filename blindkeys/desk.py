@@ -62,7 +62,7 @@ def pieces_in(words):
     if words == ["-"]:
         return []
     pieces = [piece_in(word) for word in words]
-    return None if not pieces or None in pieces else pieces
+    return None if None in pieces else pieces
 
 
 def stand_in(words):

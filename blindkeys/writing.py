@@ -6,10 +6,10 @@ from blindkeys.kinds import is_letters
 from blindkeys.roads import check_play
 
 FIGURES = "0123456789"
-MOST_FIGURES = 40
 
-# More than anything takes, whatever it asks for, as any number of more figures is.
-TOO_GREAT = 10 ** MOST_FIGURES
+# No number of more figures than these is taken anywhere, so that they all may be read as one.
+MOST_FIGURES = 40
+TOO_GREAT = 10 ** 40
 
 
 def number_in(written):

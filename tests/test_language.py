@@ -84,6 +84,21 @@ class Language(unittest.TestCase):
             for field in ("id", "name", "attr", "arg", "module"):
                 self.assertNotIn(getattr(node, field, None), NOT_NAMES, (name, getattr(node, "lineno", 0)))
 
+    def test_exponents_are_written_out(self):
+        for name, node in self.nodes():
+            if isinstance(node, ast.BinOp) and isinstance(node.op, ast.Pow):
+                self.assertIsInstance(node.right, ast.Constant, (name, node.lineno))
+                self.assertIn(node.right.value, range(65), (name, node.lineno))
+
+    def test_no_method_has_the_name_of_an_attribute(self):
+        methods, attributes = set(), set()
+        for _, node in self.nodes():
+            if isinstance(node, ast.ClassDef):
+                methods |= {part.name for part in node.body if isinstance(part, ast.FunctionDef)}
+            if isinstance(node, ast.Attribute) and isinstance(node.ctx, ast.Store):
+                attributes.add(node.attr)
+        self.assertEqual(methods & attributes, set())
+
     def test_no_name_means_two_things(self):
         for name, tree in self.trees.items():
             taken = {part.name for node in tree.body if isinstance(node, ast.ImportFrom) for part in node.names}
